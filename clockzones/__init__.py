@@ -1,0 +1,1 @@
+"""Zones of clock readings, reckoned exactly."""
