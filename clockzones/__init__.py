@@ -1,1 +1,1 @@
-"""Zones of clock readings, reckoned exactly."""
+"""Zones of clock readings, and machines with clocks, reckoned exactly."""

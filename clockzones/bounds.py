@@ -22,5 +22,13 @@ def together(one, other):
     """The bound on i less j that comes of one on i less k and one on k less j."""
     if one == NO_BOUND or other == NO_BOUND:
         return NO_BOUND
-    # Only two of "at most" make "at most", so the last bits are multiplied, not added.
-    return 2 * (one // 2 + other // 2) + (one % 2) * (other % 2)
+    # Two last bits would make 2, one alone would stay: only two of "at most" make "at most".
+    return one + other - ((one | other) & 1)
+
+
+def keeps(bound, difference, whole):
+    """Whether difference, told in so many parts of a whole, is within the bound."""
+    if bound == NO_BOUND:
+        return True
+    limit = (bound // 2) * whole
+    return difference < limit or (difference == limit and bound % 2 == 1)

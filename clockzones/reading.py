@@ -10,6 +10,15 @@ BACK = 6
 FREE = 7
 WIDE = 8
 IN_ZONE = 9
+HAS = 10
+EMPTY = 11
+INIT = 12
+PLACE = 13
+EDGE = 14
+CAN = 15
+ROW = 16
+PLACES = 17
+LEAD = 18
 
 # For each call, by its number: how many whole numbers it has, and how many rows behind them.
 SHAPES = (
@@ -23,6 +32,15 @@ SHAPES = (
     (1, 1),
     (1, 1),
     (0, 2),
+    (4, 1),
+    (0, 1),
+    (1, 1),
+    (1, 1),
+    (3, 1),
+    (1, 1),
+    (1, 1),
+    (0, 0),
+    (0, 1),
 )
 
 

@@ -1,12 +1,9 @@
-"""The answers to the calls that reckon with zones alone."""
+"""The answers to the calls that ask of zones alone."""
 
-from clockzones.bounds import is_bound
-from clockzones.reading import BACK, BOTH, FORM, FREE, HULL, IN_ZONE, LATER, SET, SOONER, WIDE
-from clockzones.refusals import NotAllowed, OutOfReach
-from clockzones.zones import SIZE, back, both, form, free, hull, later, set_to, sooner, wide, within
-
-ALL_CLOCKS = 14
-LARGEST_WHOLE = 1048576
+from clockzones.checks import check_clocks, check_size, read_zone, told
+from clockzones.reading import BACK, BOTH, EMPTY, FORM, FREE, HAS, HULL, IN_ZONE, LATER, SET, SOONER, WIDE
+from clockzones.refusals import NotAllowed
+from clockzones.zones import back, both, free, has_readings, hull, is_empty, later, set_to, sooner, wide, within
 
 
 def zone_answer(call):
@@ -14,15 +11,9 @@ def zone_answer(call):
     # All that -1 is due for is looked at before anything is reckoned: it goes ahead of -2.
     handed = [read_zone(row) for row in call.rows]
     check_wholes(call.number, call.wholes)
-    if call.number == IN_ZONE:
-        return [1 if within(handed[0], handed[1]) else 0]
+    if call.number in (IN_ZONE, HAS, EMPTY):
+        return [1 if holds(call.number, call.wholes, handed) else 0]
     return told(reckoned(call.number, call.wholes, handed))
-
-
-def read_zone(row):
-    if len(row) != SIZE or not all([is_bound(number) for number in row]):
-        raise NotAllowed()
-    return form(row)
 
 
 def check_wholes(number, wholes):
@@ -32,16 +23,17 @@ def check_wholes(number, wholes):
         check_size(wholes[1])
     if number == WIDE:
         check_size(wholes[0])
-
-
-def check_clocks(clocks):
-    if (clocks | ALL_CLOCKS) != ALL_CLOCKS:
+    if number == HAS and wholes[3] == 0:
         raise NotAllowed()
 
 
-def check_size(whole):
-    if whole > LARGEST_WHOLE:
-        raise NotAllowed()
+def holds(number, wholes, handed):
+    z = handed[0]
+    if number == IN_ZONE:
+        return within(z, handed[1])
+    if number == HAS:
+        return has_readings(wholes[:3], wholes[3], z)
+    return is_empty(z)
 
 
 def reckoned(number, wholes, handed):
@@ -63,9 +55,3 @@ def reckoned(number, wholes, handed):
     if number == FREE:
         return free(wholes[0], z)
     return wide(wholes[0], z)
-
-
-def told(z):
-    if not all([is_bound(number) for number in z]):
-        raise OutOfReach()
-    return z

@@ -1,16 +1,18 @@
 """What is reckoned with zones.
 
-form takes any sixteen bounds. Every other function takes zones in form alone
-and gives one back in form, so an answer can't hang on how a set was told.
+form and is_simple take any sixteen bounds. Every other function takes zones in
+form alone and gives them back in form, so an answer can't hang on how a set was
+told.
 The bounds within may lie beyond those that may be told: what is out of reach
 halfway may be back in reach at the end.
 """
 
-from clockzones.bounds import AT_MOST_ZERO, NO_BOUND, at_most, together
+from clockzones.bounds import AT_MOST_ZERO, NO_BOUND, at_most, keeps, together
 
 READINGS = (0, 1, 2, 3)
 CLOCKS = (1, 2, 3)
 SIZE = 16
+SIMPLE_MOST = 4
 
 
 def cell(i, j):
@@ -40,10 +42,33 @@ def bound_by_nature(row):
 
 
 def narrow_through(row, k):
+    # All that is reckoned comes down to these loops: what can be looked up once is.
+    from_k = row[cell(k, 0):cell(k + 1, 0)]
     for i in READINGS:
-        for j in READINGS:
-            round_about = together(row[cell(i, k)], row[cell(k, j)])
-            row[cell(i, j)] = min(row[cell(i, j)], round_about)
+        to_k = row[cell(i, k)]
+        if to_k != NO_BOUND:
+            start = cell(i, 0)
+            for j in READINGS:
+                round_about = together(to_k, from_k[j])
+                if round_about < row[start + j]:
+                    row[start + j] = round_about
+
+
+def everything():
+    return form([NO_BOUND] * SIZE)
+
+
+def is_simple(row):
+    """Whether a row of sixteen bounds, as it is told and not by its form, is a simple zone."""
+    return all([is_simple_bound(k // 4, k % 4, row[k]) for k in range(SIZE)])
+
+
+def is_simple_bound(i, j, bound):
+    if bound == NO_BOUND:
+        return True
+    if i > 0 and j > 0 and i != j:
+        return False
+    return abs(bound // 2) <= SIMPLE_MOST
 
 
 def is_empty(z):
@@ -51,6 +76,8 @@ def is_empty(z):
 
 
 def both(z, w):
+    if within(z, w):
+        return list(z)
     return form([min(z[k], w[k]) for k in range(SIZE)])
 
 
@@ -123,4 +150,15 @@ def widened(most, bound):
 
 def within(z, w):
     """Whether all of z is in w."""
-    return is_empty(z) or all([z[k] <= w[k] for k in range(SIZE)])
+    if is_empty(z):
+        return True
+    for k in range(SIZE):
+        if z[k] > w[k]:
+            return False
+    return True
+
+
+def has_readings(readings, whole, z):
+    """Whether z has the readings of the clocks 1 to 3, told in so many parts of a whole."""
+    measured = [0] + readings
+    return all([keeps(z[k], measured[k // 4] - measured[k % 4], whole) for k in range(SIZE)])

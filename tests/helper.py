@@ -30,25 +30,25 @@ def more(c):
 
 def zone(bounds):
     """Sixteen bounds that are none but for those given by (i, j)."""
-    row = list(ANYTHING)
+    numbers = list(ANYTHING)
     for (i, j), bound in bounds.items():
-        row[4 * i + j] = bound
-    return row
+        numbers[4 * i + j] = bound
+    return numbers
 
 
 def formed(bounds):
     """A form written by what differs from the form of all readings."""
-    row = zone({(0, 0): 1, (0, 1): 1, (0, 2): 1, (0, 3): 1, (1, 1): 1, (2, 2): 1, (3, 3): 1})
+    numbers = zone({(0, 0): 1, (0, 1): 1, (0, 2): 1, (0, 3): 1, (1, 1): 1, (2, 2): 1, (3, 3): 1})
     for (i, j), bound in bounds.items():
-        row[4 * i + j] = bound
-    return row
+        numbers[4 * i + j] = bound
+    return numbers
 
 
 ALL = formed({})
 
 
-def counted(row):
-    return [len(row)] + list(row)
+def counted(numbers):
+    return [len(numbers)] + list(numbers)
 
 
 def form(z):
@@ -91,8 +91,44 @@ def in_zone(z, w):
     return [9] + counted(z) + counted(w)
 
 
+def has(x, y, u, whole, z):
+    return [10, x, y, u, whole] + counted(z)
+
+
+def empty(z):
+    return [11] + counted(z)
+
+
+def init(places, first):
+    return [12, places] + counted(first)
+
+
+def place(p, stay):
+    return [13, p] + counted(stay)
+
+
+def edge(begin, end, clocks, when):
+    return [14, begin, end, clocks] + counted(when)
+
+
+def can(p, z):
+    return [15, p] + counted(z)
+
+
+def row(p, z):
+    return [16, p] + counted(z)
+
+
+def places():
+    return [17]
+
+
+def lead(edges):
+    return [18] + counted(edges)
+
+
 def all_calls_on(z):
-    """Each call whose one wrong or odd argument may be z, by name."""
+    """Each call that takes any zone, with z as its one wrong or odd argument, by name."""
     return {
         "form": form(z),
         "both, first": both(z, ALL),
@@ -107,7 +143,30 @@ def all_calls_on(z):
         "wide": wide(5, z),
         "in, first": in_zone(z, ALL),
         "in, second": in_zone(ALL, z),
+        "has": has(1, 2, 3, 4, z),
+        "empty": empty(z),
     }
+
+
+def simple_calls_on(z):
+    """Each call that takes a simple zone alone, with z as its one wrong or odd argument, by name."""
+    return {
+        "init": init(2, z),
+        "place": place(0, z),
+        "edge": edge(0, 0, 2, z),
+        "can": can(0, z),
+        "row": row(0, z),
+    }
+
+
+def machine(places, first, edges, stays=None):
+    """The calls that make a machine; each edge is (from, to, clocks, when), and stays go by place."""
+    calls = init(places, first)
+    for p, stay in (stays or {}).items():
+        calls += place(p, stay)
+    for one in edges:
+        calls += edge(*one)
+    return calls
 
 
 def split(numbers):
@@ -129,6 +188,11 @@ def answer(call):
     if len(found) != 1:
         raise ValueError("not one answer")
     return found[0]
+
+
+def last_answer(calls):
+    """The answer to the last of several calls."""
+    return split(answers(list(calls)))[-1]
 
 
 def told(call):

@@ -4,10 +4,17 @@ import unittest
 
 from clockzones.machine import answers
 from tests.helper import (
-    ALL, ANYTHING, EMPTY, NONE, all_calls_on, at_most, both, form, formed, free, in_zone, later, less, set_to, split,
-    wide, zone)
+    ALL, ANYTHING, EMPTY, NONE, all_calls_on, at_least, at_most, both, can, edge, form, formed, free, in_zone, init,
+    later, lead, less, machine, place, places, row, set_to, simple_calls_on, split, wide, zone)
 
 FAR = zone({(1, 0): at_most(1048576), (2, 1): at_most(1)})
+ORIGIN = zone({(1, 0): at_most(0), (2, 0): at_most(0), (3, 0): at_most(0)})
+LATE = zone({(0, 1): at_least(2)})
+SOON = zone({(1, 0): less(3)})
+# A machine, and all that can be asked of it.
+TWO_PLACES = machine(2, ORIGIN, [(0, 1, 2, LATE), (1, 0, 14, ANYTHING)], {0: SOON})
+ASKED = (places() + can(1, LATE) + row(0, ORIGIN) + row(1, SOON) + row(1, zone({(2, 0): less(2)})) + lead([0, 1])
+         + lead([1]) + lead([0] * 33) + can(2, ANYTHING))
 
 
 class Watched(list):
@@ -29,6 +36,34 @@ class OneCall(unittest.TestCase):
         self.assertEqual(answers([9, 16] + ALL + [16] + ALL), [2, 0, 1])
         self.assertEqual(answers([9, 16] + ALL + [16] + EMPTY), [2, 0, 0])
 
+    def test_has_and_empty_are_told_as_0_and_one(self):
+        self.assertEqual(answers([10, 5, 0, 0, 2, 16] + SOON), [2, 0, 1])
+        self.assertEqual(answers([10, 0, 6, 7, 2, 16] + SOON), [2, 0, 1])
+        self.assertEqual(answers([10, 6, 0, 0, 2, 16] + SOON), [2, 0, 0])
+        self.assertEqual(answers([11, 16] + SOON), [2, 0, 0])
+        self.assertEqual(answers([11, 16] + EMPTY), [2, 0, 1])
+
+    def test_the_calls_on_the_machine(self):
+        self.assertEqual(answers([12, 3, 16] + ORIGIN), [2, 0, 0])
+        self.assertEqual(answers([13, 0, 16] + ORIGIN), [2, 0, 0])
+        self.assertEqual(answers([14, 0, 0, 2, 16] + ORIGIN), [2, 0, 0])
+        self.assertEqual(answers([14, 0, 0, 2, 16] + ORIGIN + [14, 0, 0, 4, 16] + LATE), [2, 0, 0, 2, 0, 1])
+        self.assertEqual(answers([15, 0, 16] + ORIGIN), [2, 0, 1])
+        self.assertEqual(answers([16, 0, 16] + ORIGIN), [2, 0, 0])
+        self.assertEqual(answers([17]), [3, 0, 1, 0])
+        self.assertEqual(answers([18, 0]), [18, 0, 0] + ALL)
+
+    def test_from_to_and_clocks_come_in_their_order(self):
+        calls = [12, 3, 16] + ORIGIN + [14, 0, 2, 8, 16] + LATE + [17, 18, 1, 0, 16, 2, 16] + LATE
+        gone = formed({(0, 1): -3, (0, 2): -3, (1, 2): 1, (2, 1): 1, (3, 1): -3, (3, 2): -3})
+        self.assertEqual(answers(calls), [2, 0, 0, 2, 0, 0, 4, 0, 2, 0, 2, 18, 0, 2] + gone + [3, 0, 1, 0])
+
+    def test_refusals_of_the_machine_are_alone(self):
+        self.assertEqual(answers([12, 0, 16] + ORIGIN), [1, -1])
+        self.assertEqual(answers([16, 0, 16] + zone({(1, 0): less(0)})), [1, -3])
+        self.assertEqual(answers([18, 1, 0]), [1, -3])
+        self.assertEqual(answers([18, 33] + [0] * 33), [1, -1])
+
     def test_a_refusal_is_alone(self):
         self.assertEqual(answers([0, 0]), [1, -1])
         self.assertEqual(answers([0, 16] + FAR), [1, -2])
@@ -46,7 +81,8 @@ class OneCall(unittest.TestCase):
         self.assertEqual(answers(in_zone(ANYTHING, narrow)), [2, 0, 0])
 
     def test_kinds(self):
-        for name, call in all_calls_on(zone({(1, 0): 5})).items():
+        calls = list(all_calls_on(zone({(1, 0): 5})).items()) + list(simple_calls_on(zone({(1, 0): 5})).items())
+        for name, call in calls + [("places", places()), ("lead", lead([])), ("all of them", TWO_PLACES + ASKED)]:
             with self.subTest(name):
                 numbers = answers(call)
                 self.assertIs(type(numbers), list)
@@ -68,6 +104,37 @@ class SeveralCalls(unittest.TestCase):
         calls += list(all_calls_on(FAR).values()) + list(all_calls_on([5] * 17).values())
         self.assertEqual(answers(sum(calls, [])), sum([answers(call) for call in calls], []))
 
+    def test_calls_on_zones_among_those_on_the_machine(self):
+        made = split(answers(TWO_PLACES + ASKED))
+        apart = list(all_calls_on(zone({(1, 2): -3, (3, 0): 8})).values()) + list(all_calls_on(FAR).values())
+        parts = [init(2, ORIGIN), place(0, SOON), edge(0, 1, 2, LATE), edge(1, 0, 14, ANYTHING), places(), can(1, LATE),
+                 row(0, ORIGIN), row(1, SOON), row(1, zone({(2, 0): less(2)})), lead([0, 1]), lead([1]), lead([0] * 33),
+                 can(2, ANYTHING)]
+        self.assertEqual(sum(parts, []), TWO_PLACES + ASKED)
+        calls, wanted = [], []
+        for k, part in enumerate(parts):
+            for other in (apart[k], apart[-1 - k], form([])):
+                calls += other
+                wanted += split(answers(other))
+            calls += part
+            wanted.append(made[k])
+        self.assertEqual(split(answers(calls)), wanted)
+
+    def test_what_the_machine_tells_in_one_list(self):
+        led = formed({(1, 2): 1, (2, 1): 1, (1, 3): 1, (3, 1): 1, (2, 3): 1, (3, 2): 1,
+                      (1, 0): 6, (2, 0): 6, (3, 0): 6})
+        wanted = [[0, 0], [0, 0], [0, 0], [0, 1], [0, 2, 0, 1], [0, 1], [0, 0], [0, 1, 0], [-3], [0, 0] + led, [-3],
+                  [-1], [-1]]
+        self.assertEqual(split(answers(TWO_PLACES + ASKED)), wanted)
+
+    def test_several_machines_one_behind_another(self):
+        both_ways = answers(TWO_PLACES + ASKED)
+        self.assertEqual(answers((TWO_PLACES + ASKED) * 3), both_ways * 3)
+
+    def test_four_hundred_calls_on_one_machine(self):
+        calls = TWO_PLACES + (row(1, SOON) + place(1, SOON) + can(0, LATE) + places()) * 99
+        self.assertEqual(split(answers(calls))[4:], [[0, 1, 0], [0, 0], [0, 1], [0, 2, 0, 1]] * 99)
+
     def test_four_hundred_calls(self):
         call = both(zone({(1, 0): 5}), zone({(2, 0): 5}))
         self.assertEqual(answers(call * 400), answers(call) * 400)
@@ -80,7 +147,8 @@ class SeveralCalls(unittest.TestCase):
 
 class NothingIsKept(unittest.TestCase):
     def calls(self):
-        return sum([sum(all_calls_on(z).values(), []) for z in (zone({(1, 0): 5}), FAR, EMPTY, [1, 2])], [])
+        on_zones = sum([sum(all_calls_on(z).values(), []) for z in (zone({(1, 0): 5}), FAR, EMPTY, [1, 2])], [])
+        return on_zones + TWO_PLACES + ASKED + sum(simple_calls_on(FAR).values(), []) + ASKED
 
     def test_what_is_handed_in_stays_as_it_was(self):
         calls = self.calls()
@@ -89,6 +157,12 @@ class NothingIsKept(unittest.TestCase):
 
     def test_what_is_handed_in_is_not_changed_for_a_while_either(self):
         self.assertEqual(answers(Watched(self.calls())), answers(self.calls()))
+
+    def test_a_list_begins_with_a_machine_that_is_new(self):
+        before = answers(ASKED)
+        answers(TWO_PLACES + edge(0, 0, 0, ANYTHING) + place(0, ORIGIN))
+        self.assertEqual(answers(ASKED), before)
+        self.assertEqual(answers(ASKED)[:4], [3, 0, 1, 0])
 
     def test_the_same_again(self):
         before = answers(self.calls())

@@ -60,7 +60,10 @@ class Language(unittest.TestCase):
             for node in ast.walk(tree):
                 where = f"{name}:{getattr(node, 'lineno', 0)}"
                 self.assertIsInstance(node, NODES, where)
-                self.assertNotIsInstance(node, (ast.Div, ast.MatMult, ast.Is, ast.IsNot), where)
+                self.assertNotIsInstance(node, (ast.Div, ast.MatMult), where)
+                if isinstance(node, ast.Compare) and isinstance(node.ops[0], (ast.Is, ast.IsNot)):
+                    self.assertIsInstance(node.comparators[0], ast.Constant, where)
+                    self.assertIn(node.comparators[0].value, (None, True, False), where)
                 if isinstance(node, ast.Assign):
                     self.assertEqual(len(node.targets), 1, where)
                 if isinstance(node, ast.Constant):
@@ -98,6 +101,39 @@ class Language(unittest.TestCase):
                         self.assertFalse(bound in vars(builtins), f"{name}: {bound}")
                     elif bound in vars(builtins):
                         self.assertIn(bound, OWN_NAMES, name)
+
+    def test_no_two_files_draw_from_one_another(self):
+        drawn = {}
+        for name, tree in trees():
+            imports = [node for node in ast.walk(tree) if isinstance(node, ast.ImportFrom)]
+            drawn[name] = {node.module.split(".")[1] + ".py" for node in imports}
+        while drawn:
+            free = [name for name, others in drawn.items() if not others & set(drawn)]
+            self.assertTrue(free, f"they draw from one another: {sorted(drawn)}")
+            for name in free:
+                drawn.pop(name)
+
+    def test_locals_are_not_called_like_imports_or_classes(self):
+        for name, tree in trees():
+            taken = {one.name for node in tree.body if isinstance(node, ast.ImportFrom) for one in node.names}
+            taken |= {node.name for node in tree.body if isinstance(node, ast.ClassDef)}
+            for node in ast.walk(tree):
+                if isinstance(node, ast.arg):
+                    self.assertNotIn(node.arg, taken, name)
+                if isinstance(node, ast.Name) and isinstance(node.ctx, ast.Store):
+                    self.assertNotIn(node.id, taken, name)
+
+    def test_values_of_objects(self):
+        methods, values = set(), set()
+        for _, tree in trees():
+            for node in ast.walk(tree):
+                if isinstance(node, ast.ClassDef):
+                    methods |= {one.name for one in node.body if isinstance(one, ast.FunctionDef)}
+                if isinstance(node, ast.Attribute) and isinstance(node.ctx, ast.Store):
+                    values.add(node.attr)
+        self.assertEqual(methods & values, set())
+        for kind in (str, int, list, dict, set, bytes, tuple):
+            self.assertEqual((methods | values) & set(dir(kind)) - {"__init__"}, set())
 
     def test_methods(self):
         own = [node.name for _, tree in trees() for node in ast.walk(tree) if isinstance(node, ast.FunctionDef)]

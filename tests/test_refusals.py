@@ -125,8 +125,8 @@ class OutOfReach(unittest.TestCase):
 
     def test_the_empty_set_is_never_beyond(self):
         nothing = zone({(1, 0): LEAST, (2, 1): LARGEST, (3, 2): LARGEST})
-        for call in (form(nothing), both(nothing, HIGH), both(HIGH, zone({(1, 2): -3})), hull(nothing, nothing), later(nothing),
-                     sooner(nothing), set_to(2, TOP, nothing), back(2, TOP, nothing), free(2, nothing),
+        for call in (form(nothing), both(nothing, HIGH), both(HIGH, zone({(1, 2): -3})), hull(nothing, nothing),
+                     later(nothing), sooner(nothing), set_to(2, TOP, nothing), back(2, TOP, nothing), free(2, nothing),
                      wide(TOP, nothing)):
             with self.subTest(call=call[0]):
                 self.assertEqual(told(call), EMPTY)
